@@ -52,6 +52,16 @@ func blocks(seeds ...byte) []api.Block {
 	return l
 }
 
+// planned makes the call of that number fail, or the power go off at it, and tells the error that it then answers.
+func planned(w *world.World, at int, stops bool) api.Errno {
+	if stops {
+		w.Plan(nil, at)
+		return api.ErrCrash
+	}
+	w.Plan([]int{at}, -1)
+	return api.ErrIO
+}
+
 var hollow = api.Block{Tuple: api.Tuple{Guard: 0xffff, App: 0xffff, Ref: 0xffffffff}}
 
 // The chapter's examples.
@@ -278,12 +288,7 @@ func TestReadThatFails(t *testing.T) {
 			w := world.New()
 			s := open(t, w, 5, true)
 			s.Write(0, blocks(1, 2, 3, 4, 5), false)
-			wanted := api.ErrIO
-			w.Plan([]int{at}, -1)
-			if stops {
-				wanted = api.ErrCrash
-				w.Plan(nil, at)
-			}
+			wanted := planned(w, at, stops)
 			l, n, e := s.Read(1, 3)
 			wantCount(t, "Read", n, e, at, wanted)
 			if len(l) != 0 || w.Ops() != at+1 {
@@ -348,12 +353,7 @@ func TestWriteThatFails(t *testing.T) {
 			w := world.New()
 			s := open(t, w, 4, false)
 			s.Write(0, blocks(1, 2, 3, 4), true)
-			wanted := api.ErrIO
-			w.Plan([]int{at}, -1)
-			if stops {
-				wanted = api.ErrCrash
-				w.Plan(nil, at)
-			}
+			wanted := planned(w, at, stops)
 			n, e := s.Write(1, blocks(5, 6, 7), true)
 			wantCount(t, "Write", n, e, at, wanted) // the fourth call is the Sync: all were written
 			if w.Ops() != at+1 || w.Waits() != at {
@@ -420,12 +420,7 @@ func TestUnmapThatFails(t *testing.T) {
 			w := world.New()
 			s := open(t, w, 4, false)
 			s.Write(0, blocks(1, 2, 3, 4), true)
-			wanted := api.ErrIO
-			w.Plan([]int{at}, -1)
-			if stops {
-				wanted = api.ErrCrash
-				w.Plan(nil, at)
-			}
+			wanted := planned(w, at, stops)
 			n, e := s.Unmap(0, 3)
 			wantCount(t, "Unmap", n, e, at, wanted)
 			if w.Ops() != at+1 || w.Waits() != at {
