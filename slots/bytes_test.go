@@ -181,10 +181,10 @@ func TestMemoryOfRecordAndDecode(t *testing.T) {
 	}
 }
 
-// spoil writes over a list and its spare room.
+// spoil writes over a list and its spare room; twice is not as if never.
 func spoil(p []byte) {
 	p = p[:cap(p)]
 	for i := range p {
-		p[i] ^= 0xff
+		p[i]++
 	}
 }
