@@ -83,14 +83,11 @@ func response(c command, status api.Status, size int) api.PDU {
 	return p
 }
 
-// senseData tells a sense behind its length; no bytes, if it can't be told.
+// senseData tells a sense behind its length; one that can't be told at all has the length 0.
 func senseData(why api.Sense, described bool) []byte {
 	p, e := sense.Fixed(why)
 	if described || e != api.OK {
-		p, e = sense.Described(why)
-	}
-	if e != api.OK {
-		return nil
+		p, _ = sense.Described(why)
 	}
 	return append([]byte{byte(len(p) >> 8), byte(len(p))}, p...)
 }

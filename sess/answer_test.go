@@ -142,6 +142,7 @@ func TestSense(t *testing.T) {
 	fixed := []byte{0, 18, 0x70, 0, 5, 0, 0, 0, 0, 0x0a, 0, 0, 0, 0, 0x24, 0, 0, 0xcf, 0, 2}
 	described := []byte{0, 16, 0x72, 5, 0x24, 0, 0, 0, 0, 8, 2, 6, 0, 0, 0xcf, 0, 2, 0}
 	zero := []byte{0, 18, 0x70, 0, 0, 0, 0, 0, 0, 0x0a, 0, 0, 0, 0, 0, 0, 0, 0, 0, 0}
+	untold := []byte{0, 0}
 	far := api.Sense{Key: 3, Code: 0x1100, HasInfo: true, Info: 1 << 32}
 	near := api.Sense{Key: 3, Code: 0x1100, HasInfo: true, Info: 1<<32 - 1}
 	farDescribed := []byte{0, 20, 0x72, 3, 0x11, 0, 0, 0, 0, 12, 0, 10, 0x80, 0, 0, 0, 0, 1, 0, 0, 0, 0}
@@ -156,9 +157,10 @@ func TestSense(t *testing.T) {
 		{api.Sense{}, false, zero}, {api.Sense{}, true, []byte{0, 8, 0x72, 0, 0, 0, 0, 0, 0, 0}},
 		{far, false, farDescribed}, {far, true, farDescribed},
 		{near, false, nearFixed}, {near, true, nearDescribed},
-		{api.Sense{Key: 16}, false, nil}, {api.Sense{Key: 16}, true, nil},
-		{api.Sense{Info: 1}, false, nil}, {api.Sense{Info: 1 << 32}, true, nil},
-		{api.Sense{HasField: true, Field: 65536}, false, nil}, {api.Sense{HasField: true, Bit: 8}, true, nil},
+		// One that can't be told at all has no bytes, and that is told.
+		{api.Sense{Key: 16}, false, untold}, {api.Sense{Key: 16}, true, untold},
+		{api.Sense{Info: 1}, false, untold}, {api.Sense{Info: 1 << 32}, false, untold}, {api.Sense{Info: 1 << 32}, true, untold},
+		{api.Sense{HasField: true, Field: 65536}, false, untold}, {api.Sense{HasField: true, Bit: 8}, true, untold},
 	} {
 		r := api.Result{Status: api.Check, Sense: x.sense, Data: make([]byte, 20)}
 		wantEnd(t, opened(t, 1, 0xc0, 20), 1, r, x.described, withData(ended(0x82, 2, 0, 20), x.wanted))

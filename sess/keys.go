@@ -17,8 +17,10 @@ func (s *Session) answerKeys(p []byte) []byte {
 	for _, one := range keys {
 		switch {
 		case one.Key == sendTargets && one.Value == s.allTargets():
-			for _, name := range s.toldTargets() {
-				out = appendPair(out, "TargetName", name)
+			for _, name := range s.targets {
+				if s.tells(name) {
+					out = appendPair(out, "TargetName", name)
+				}
 			}
 		case one.Key == sendTargets:
 			out = appendPair(out, one.Key, "Reject")
@@ -37,12 +39,9 @@ func (s *Session) allTargets() string {
 	return ""
 }
 
-// toldTargets has the targets that a session may be told: who has logged in to one is told of no other.
-func (s *Session) toldTargets() []string {
-	if s.params.Discovery {
-		return s.targets
-	}
-	return []string{s.params.Target}
+// tells: a session may be told of a target; who has logged in to one is told of no other.
+func (s *Session) tells(name string) bool {
+	return s.params.Discovery || name == s.params.Target
 }
 
 func appendPair(out []byte, key, value string) []byte {

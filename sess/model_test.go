@@ -149,15 +149,20 @@ func (m *model) key(key, value string) string {
 	if key != "SendTargets" {
 		return key + "=NotUnderstood\x00"
 	}
+	answer := ""
 	if m.params.Discovery && value == "All" {
-		answer := ""
 		for _, name := range m.names {
 			answer += "TargetName=" + name + "\x00"
 		}
 		return answer
 	}
 	if !m.params.Discovery && value == "" {
-		return "TargetName=" + m.params.Target + "\x00"
+		for _, name := range m.names {
+			if name == m.params.Target {
+				answer += "TargetName=" + name + "\x00"
+			}
+		}
+		return answer
 	}
 	return "SendTargets=Reject\x00"
 }
@@ -262,7 +267,7 @@ func (m *model) pieces(c *modelCommand, all []byte) {
 	}
 }
 
-// modelSense tells the bytes of a sense behind their count; none of one that can't be told.
+// modelSense tells the bytes of a sense behind their count; the count 0 alone of one that can't be told.
 func modelSense(s api.Sense, described bool) []byte {
 	inForm := s.Key <= 15 && (s.HasInfo || s.Info == 0)
 	if s.HasField {
@@ -271,7 +276,7 @@ func modelSense(s api.Sense, described bool) []byte {
 		inForm = inForm && s.Field == 0 && s.Bit == 0 && !s.InCmd
 	}
 	if !inForm {
-		return nil
+		return []byte{0, 0}
 	}
 	field := [3]byte{}
 	if s.HasField {
@@ -488,7 +493,7 @@ func TestAsModel(t *testing.T) {
 	for seed := range int64(3000) {
 		r := rand.New(rand.NewSource(seed))
 		params := anyParams(r)
-		targets := [][]string{nil, {"t"}, {"u", "t"}, {"a", "b", "a"}}[r.Intn(4)]
+		targets := [][]string{nil, {"t"}, {"u", "t"}, {"a", "b", "a"}, {"t", "u", "t"}}[r.Intn(5)]
 		first := pick[uint32](r, 0, 1, 5, 1<<32-1, 1<<32-3, 1<<31-2, r.Uint32())
 		s, m := New(params, targets, first), newModel(params, targets, first)
 		for range 60 {
@@ -570,7 +575,7 @@ func (n seen) noteEnd(out []api.PDU, r api.Result) {
 	n[map[byte]string{0x80: "as many", 0x82: "too few", 0x84: "too many"}[last.Flags]]++
 	if r.Status == api.Check {
 		switch {
-		case len(last.Data) == 0:
+		case len(last.Data) == 2:
 			n["no sense"]++
 		case last.Data[2] == 0x72:
 			n["described"]++

@@ -251,7 +251,6 @@ func TestSendTargets(t *testing.T) {
 	wantText(t, discovery(), nil, "SendTargets=All\x00", "")
 	wantText(t, discovery(), []string{"a", "a", ""}, "SendTargets=All\x00", "TargetName=a\x00TargetName=a\x00TargetName=\x00")
 	wantText(t, plain(), names, "SendTargets=\x00", "TargetName=t\x00")
-	wantText(t, plain(), nil, "SendTargets=\x00", "TargetName=t\x00")
 	for _, value := range []string{"", "all", "ALL", "All ", "Al", "t", "a", "b", "No", "=All"} {
 		wantText(t, discovery(), names, "SendTargets="+value+"\x00", reject)
 	}
@@ -260,10 +259,32 @@ func TestSendTargets(t *testing.T) {
 	}
 }
 
+// A session that is no discovery session is told of its own target, as often as that is among the names, and of no other.
+func TestOwnTarget(t *testing.T) {
+	own := "TargetName=t\x00"
+	for _, x := range []struct {
+		names  []string
+		wanted string
+	}{
+		{nil, ""}, {[]string{}, ""}, {[]string{""}, ""}, {[]string{"u"}, ""}, {[]string{"T", "tt", "t "}, ""},
+		{[]string{"t"}, own}, {[]string{"u", "t"}, own}, {[]string{"t", "u"}, own},
+		{[]string{"t", "t"}, own + own}, {[]string{"t", "u", "t"}, own + own},
+	} {
+		wantText(t, plain(), x.names, "SendTargets=\x00", x.wanted)
+		wantText(t, plain(), x.names, "a=1\x00SendTargets=\x00b=2\x00", "a=NotUnderstood\x00"+x.wanted+"b=NotUnderstood\x00")
+	}
+	// A discovery session has a target of its own or not: it is told of all.
+	named := discovery()
+	named.Target = "t"
+	wantText(t, named, []string{"u", "t"}, "SendTargets=All\x00", "TargetName=u\x00"+own)
+	// The empty name is a name as any other is.
+	wantText(t, login.Params{}, []string{"", "t"}, "SendTargets=\x00", "TargetName=\x00")
+}
+
 func TestOtherKeys(t *testing.T) {
 	wantText(t, plain(), nil, "", "")
 	wantText(t, discovery(), []string{"x"}, "a=1\x00SendTargets=All\x00b=\x00", "a=NotUnderstood\x00TargetName=x\x00b=NotUnderstood\x00")
-	wantText(t, plain(), []string{"x"}, "sendtargets=\x00SendTarget=\x00TargetName=t\x00SendTargets=\x00InitiatorName=i\x00HeaderDigest=None\x00",
+	wantText(t, plain(), []string{"x", "t"}, "sendtargets=\x00SendTarget=\x00TargetName=t\x00SendTargets=\x00InitiatorName=i\x00HeaderDigest=None\x00",
 		"sendtargets=NotUnderstood\x00SendTarget=NotUnderstood\x00TargetName=NotUnderstood\x00TargetName=t\x00InitiatorName=NotUnderstood\x00HeaderDigest=NotUnderstood\x00")
 }
 
